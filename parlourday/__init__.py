@@ -1,0 +1,1 @@
+"""parlourday: seats and opened tubs, for all guests."""

@@ -1,0 +1,66 @@
+"""What can be seen of the form that the program's code has to have."""
+
+import ast
+import pathlib
+import unittest
+
+PACKAGE = pathlib.Path(__file__).resolve().parent.parent / "parlourday"
+FILES = sorted(path for path in PACKAGE.rglob("*.py"))
+LIBRARY = {
+    "math": {"gcd", "lcm", "isqrt", "comb", "perm", "factorial"},
+    "heapq": {"heappush", "heappop", "heapify", "heapreplace", "heappushpop"},
+}
+BARRED = (ast.GeneratorExp, ast.Global, ast.AsyncFunctionDef, ast.Await, ast.Div, ast.Import)
+BARRED_NAMES = {
+    "eval", "exec", "getattr", "setattr", "hasattr", "globals", "locals", "vars", "id", "hash", "float", "round",
+    "open", "input", "print", "filter", "type", "register", "elements", "law", "mro",
+}
+
+
+def trees():
+    for path in FILES:
+        text = path.read_text(encoding="utf-8")
+        yield path, text, ast.parse(text)
+
+
+class Form(unittest.TestCase):
+    def test_the_folder_holds_python_files_alone(self):
+        others = [path for path in PACKAGE.rglob("*") if path.is_file() and path.suffix not in (".py", ".pyc")]
+        self.assertEqual(others, [])
+        self.assertTrue((PACKAGE / "__init__.py").is_file())
+
+    def test_sizes_and_characters(self):
+        for path, text, tree in trees():
+            lines = text.split("\n")
+            self.assertLessEqual(len(lines), 400, path)
+            self.assertLessEqual(max(len(line) for line in lines), 120, path)
+            self.assertTrue(all(sign == "\n" or " " <= sign <= "~" for sign in text), path)
+            for node in ast.walk(tree):
+                if isinstance(node, ast.FunctionDef):
+                    self.assertLessEqual(node.end_lineno - node.lineno + 1, 40, (path, node.name))
+
+    def test_imports(self):
+        names = {f"parlourday.{path.stem}" for path in FILES}
+        for path, _, tree in trees():
+            for node in ast.walk(tree):
+                if isinstance(node, ast.ImportFrom):
+                    self.assertTrue(node.module in names or node.module in LIBRARY, (path, node.lineno))
+                    for alias in node.names:
+                        self.assertIsNone(alias.asname, (path, node.lineno))
+                        if node.module in LIBRARY:
+                            self.assertIn(alias.name, LIBRARY[node.module], path)
+
+    def test_what_the_code_does_without(self):
+        for path, _, tree in trees():
+            for node in ast.walk(tree):
+                self.assertNotIsInstance(node, BARRED, (path, getattr(node, "lineno", None)))
+                if isinstance(node, (ast.Name, ast.arg)):
+                    name = node.id if isinstance(node, ast.Name) else node.arg
+                    self.assertNotIn(name, BARRED_NAMES, (path, node.lineno))
+                if isinstance(node, ast.Constant):
+                    self.assertNotIsInstance(node.value, (float, complex), (path, node.lineno))
+                    self.assertFalse(isinstance(node.value, str) and "%" in node.value, (path, node.lineno))
+
+
+if __name__ == "__main__":
+    unittest.main()
