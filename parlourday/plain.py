@@ -47,3 +47,23 @@ def is_greater(fraction, other):
 def turned_fraction(fraction):
     """The fraction with the other sign."""
     return (-fraction[0], fraction[1])
+
+
+def fault_in(thing, fits, most):
+    """The place from which on an object is no list of at most so many entries that fit.
+
+    -1 for what is no list, None if it is such a list.
+    """
+    if not isinstance(thing, list):
+        return -1
+    for place, entry in enumerate(thing[:most]):
+        if not fits(entry):
+            return place
+    return most if len(thing) > most else None
+
+
+def is_firm(thing, depth=4):
+    """Whether an object is an integer, or a tuple of such, so many tuples within one another at most."""
+    if isinstance(thing, tuple):
+        return depth > 0 and all([is_firm(part, depth - 1) for part in thing])
+    return is_whole(thing)

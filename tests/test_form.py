@@ -1,6 +1,7 @@
 """What can be seen of the form that the program's code has to have."""
 
 import ast
+import builtins
 import pathlib
 import unittest
 
@@ -60,6 +61,51 @@ class Form(unittest.TestCase):
                 if isinstance(node, ast.Constant):
                     self.assertNotIsInstance(node.value, (float, complex), (path, node.lineno))
                     self.assertFalse(isinstance(node.value, str) and "%" in node.value, (path, node.lineno))
+
+    def test_local_names(self):
+        for path, _, tree in trees():
+            taken = set(dir(builtins))
+            for node in tree.body:
+                if isinstance(node, ast.ImportFrom):
+                    taken |= {alias.name for alias in node.names}
+                if isinstance(node, ast.ClassDef):
+                    taken.add(node.name)
+            for node in ast.walk(tree):
+                if isinstance(node, ast.arg):
+                    self.assertNotIn(node.arg, taken, (path, node.lineno))
+                if isinstance(node, ast.Name) and isinstance(node.ctx, ast.Store):
+                    self.assertNotIn(node.id, taken, (path, node.lineno))
+                if isinstance(node, ast.FunctionDef):
+                    self.assertNotIn(node.name, dir(builtins), (path, node.lineno))
+
+    def test_calls_of_builtins(self):
+        allowed = {
+            "len", "range", "enumerate", "zip", "min", "max", "sum", "abs", "sorted", "reversed", "int", "str", "bool",
+            "list", "tuple", "dict", "set", "isinstance", "ord", "repr", "any", "all", "divmod", "super", "ValueError",
+        }
+        for path, _, tree in trees():
+            for node in ast.walk(tree):
+                if isinstance(node, ast.Name) and isinstance(node.ctx, ast.Load) and hasattr(builtins, node.id):
+                    self.assertIn(node.id, allowed, (path, node.lineno))
+                # a set is made only to be sorted or counted on the spot
+                if isinstance(node, (ast.Set, ast.SetComp)):
+                    self.fail((path, node.lineno))
+
+    def test_names_that_differ_from_those_further_out(self):
+        """A variable of a comprehension within a function or comprehension is not one of those around it."""
+        for path, _, tree in trees():
+            for node in ast.walk(tree):
+                if isinstance(node, (ast.ListComp, ast.DictComp)):
+                    outer = targets(node)
+                    for inner in ast.walk(node):
+                        if inner is not node and isinstance(inner, (ast.ListComp, ast.DictComp)):
+                            self.assertFalse(outer & targets(inner), (path, inner.lineno))
+
+
+def targets(comprehension):
+    return {
+        name.id for part in comprehension.generators for name in ast.walk(part.target) if isinstance(name, ast.Name)
+    } - {"_"}
 
 
 if __name__ == "__main__":

@@ -5,6 +5,8 @@ import importlib
 import inspect
 import unittest
 
+from tests.plain_games import great_game, small_games
+from tests.plain_parlour import EAGER, GREAT, SETUP, UNFAIR
 from tests.plain_search import small_webs, wide_web
 
 INTERFACE = {
@@ -22,10 +24,31 @@ INTERFACE = {
         "tight_moves": "(web, *, least=False)", "room_of": "(web, node, index)", "sum_most": "(web)",
         "sum_walk": "(web)", "sums_after": "(web, count)",
     },
+    "games": {
+        "held": "(game, owner, way)", "game_mean": "(game)", "house_way": "(game)", "guests_way": "(game)",
+        "game_values": "(game)", "game_paper": "(game, owner)", "game_shows": "(game, owner, fraction, thing)",
+        "game_needs": "(game, fraction)", "game_turned": "(game)", "game_steps": "(game, count)",
+        "steps_lines": "(game, count)", "steps_play": "(game, count)",
+    },
+    "setups": {"is_setup": "(thing)", "is_seats": "(thing)", "all_comers": "(setup)"},
+    "seats": {
+        "seats_of": "(setup, seats, row)", "seats_after": "(setup, seats, row)", "seats_met": "(setup, seats)",
+        "seats_web": "(setup, seats, what)", "asked_rows": "(setup, seats, count)",
+    },
+    "waits": {
+        "seated_curve": "(setup, seats, count)", "longest_wait": "(setup, seats)",
+        "wait_ring": "(setup, seats, what)", "wait_ring_holds": "(setup, seats, what, thing)",
+        "quiet_beats": "(setup, seats)", "seats_apart": "(setup, seats, other)", "seats_classes": "(setup, seats)",
+        "needless_rows": "(setup, seats)", "lean_seats": "(setup, seats)", "row_asking": "(setup, seats, asking)",
+    },
 }
 
-# A right value for each parameter, for a web of small_webs.
-VALUES = {"thing": ([], [0]), "walk": [0], "fraction": (2, 4), "node": 0, "index": 0, "count": 4}
+# Right values of parameters that are the same for all of them.
+VALUES = {
+    "thing": ([], [0]), "walk": [0], "fraction": (2, 4), "node": 0, "index": 0, "count": 4, "owner": "house",
+    "row": [((1,), 0), ((), 0)] * 9, "asking": [0, 1, 0],
+}
+WORDS = {"seats": "cost", "waits": "group"}
 
 
 def functions():
@@ -34,12 +57,34 @@ def functions():
             yield module, name, getattr(importlib.import_module(f"parlourday.{module}"), name)
 
 
-def arguments(function, web):
-    values = {**VALUES, "web": web, "other": web}
+def subjects(module):
+    """Some right values of the parameters that a module's functions are about."""
+    if module in ("webs", "rings", "numbers"):
+        return [{"web": web, "other": web} for web in [*small_webs(41, 10), wide_web(42)]]
+    if module == "games":
+        games = [*small_games(43, 10), great_game(44)]
+        return [{"game": game, "way": tuple(0 if owner == "house" else None for owner in game[0])} for game in games]
+    return [
+        {"setup": setup, "seats": seats, "other": other, "what": WORDS.get(module)}
+        for setup in [SETUP, GREAT] for seats, other in [(EAGER, UNFAIR), (UNFAIR, UNFAIR)]
+    ]
+
+
+def arguments(function, subject):
+    values = {**VALUES, **subject}
     return {
         name: copy.deepcopy(values[name]) for name, parameter in inspect.signature(function).parameters.items()
         if parameter.kind is parameter.POSITIONAL_OR_KEYWORD
     }
+
+
+def spoil(found):
+    """Change all lists of what was returned."""
+    if isinstance(found, (list, tuple)):
+        for part in found:
+            spoil(part)
+    if isinstance(found, list):
+        found.append(None)
 
 
 class Interface(unittest.TestCase):
@@ -52,17 +97,17 @@ class Interface(unittest.TestCase):
                 self.assertEqual(str(inspect.signature(function)), INTERFACE[module][name])
 
     def test_by_position_and_by_name_and_again(self):
-        for web in [*small_webs(41, 10), wide_web(42)]:
-            for _, name, function in functions():
-                values = arguments(function, web)
+        for module, name, function in functions():
+            for subject in subjects(module):
+                values = arguments(function, subject)
                 before = copy.deepcopy(values)
                 with self.subTest(name):
                     found = function(**values)
                     self.assertEqual(found, function(*values.values()))
                     self.assertEqual(values, before)
                     kept = copy.deepcopy(found)
-                    if isinstance(found, list):
-                        found.append(None)
+                    spoil(found)
+                    self.assertEqual(values, before)
                     self.assertEqual(function(**values), kept)
 
 
