@@ -71,7 +71,10 @@ def better_way(owned, gains, sums, way):
 
 
 def guests_alone(owned, gains):
-    """For each node whether the guests can gain without end from it on, the house choosing nothing."""
+    """For each node whether the guests, the house choosing nothing, can gain ever more from it on.
+
+    Of each ring of the guests that gains some node is told, and no node that leads to none.
+    """
     inner = [
         [] if owned[node] else [(gain, target) for gain, target in options if not owned[target]]
         for node, options in enumerate(gains)
@@ -81,10 +84,4 @@ def guests_alone(owned, gains):
     for _ in nodes:
         raise_sums(inner, nodes, sums)
     # What still grows, behind as many moves as there are nodes, has gone round a ring that gains.
-    lost = [any([gain + sums[target] > sums[node] for gain, target in inner[node]]) for node in range(len(gains))]
-    grown = True
-    while grown:
-        further = [lost[node] or any([lost[target] for _, target in inner[node]]) for node in range(len(gains))]
-        grown = further != lost
-        lost = further
-    return lost
+    return [any([gain + sums[target] > sums[node] for gain, target in inner[node]]) for node in range(len(gains))]

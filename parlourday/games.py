@@ -78,6 +78,11 @@ def timed_moves(web):
 def game_mean(game):
     """The fraction to which either owner can hold the game from node 0."""
     check_game(game)
+    return mean_of(game)
+
+
+def mean_of(game):
+    """The mean of what is known to be a game."""
     return contest_mean(owned_nodes(game), timed_moves(game[1]), 0, -MOST_GAME_WEIGHT - 1, MOST_GAME_WEIGHT)
 
 
@@ -91,13 +96,13 @@ def game_values(game):
 def house_way(game):
     """A way of the house that holds the game to its mean."""
     check_game(game)
-    return best_way_for(game, game_mean(game))
+    return best_way_for(game, mean_of(game))
 
 
 def guests_way(game):
     """A way of the guests that holds the game to its mean."""
     check_game(game)
-    return best_way_for(turned_game(game), turned_fraction(game_mean(game)))
+    return best_way_for(turned_game(game), turned_fraction(mean_of(game)))
 
 
 def best_way_for(game, fraction):

@@ -1,6 +1,6 @@
 """Setups of a parlour, the comers of a beat, and the rules of the halves."""
 
-from parlourday.errors import BadRow, BadSeats, BadSetup, NotDeaf
+from parlourday.errors import BadAsking, BadRow, BadSeats, BadSetup, NotDeaf
 from parlourday.plain import fault_in, is_pair, is_whole, is_whole_in
 
 MOST_SEATS = 4
@@ -74,6 +74,13 @@ def check_row(setup, thing, most=LONGEST_ROW):
     fault = fault_in(thing, lambda entry: is_comers(setup, entry), most)
     if fault is not None:
         raise BadRow(fault)
+
+
+def check_asking(setup, thing):
+    """Raise BadAsking for what is no asking of a setup."""
+    fault = fault_in(thing, lambda entry: is_whole_in(entry, 0, setup[0]), LONGEST_ROW)
+    if fault is not None:
+        raise BadAsking(fault)
 
 
 def is_half(thing, deeds):

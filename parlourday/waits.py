@@ -2,10 +2,10 @@
 
 from parlourday.bench import NOBODY, seated
 from parlourday.endless import endless_ring, endless_start, longest_stay, ring_is_endless
-from parlourday.errors import BadAsking, BadWhat
-from parlourday.plain import check_count, fault_in, is_whole_in
+from parlourday.errors import BadWhat
+from parlourday.plain import check_count
 from parlourday.seats import check_deaf_seats, seats_table
-from parlourday.setups import LONGEST_ROW, check_deaf, check_seats, check_setup, comers_of
+from parlourday.setups import check_asking, check_deaf, check_seats, check_setup, comers_of
 from parlourday.sums import line_ahead, turned
 from parlourday.tables import classes_of, first_beat, first_with, pair_table, table_web
 
@@ -128,13 +128,6 @@ def lean_seats(setup, seats):
             index = len(lean)
         index -= 1
     return lean
-
-
-def check_asking(setup, thing):
-    """Raise BadAsking for what is no asking of a setup."""
-    fault = fault_in(thing, lambda entry: is_whole_in(entry, 0, setup[0]), LONGEST_ROW)
-    if fault is not None:
-        raise BadAsking(fault)
 
 
 def row_asking(setup, seats, asking):

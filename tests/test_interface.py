@@ -3,11 +3,13 @@
 import copy
 import importlib
 import inspect
+import itertools
 import unittest
 
 from tests.plain_games import great_game, small_games
 from tests.plain_parlour import EAGER, GREAT, SETUP, UNFAIR
 from tests.plain_search import small_webs, wide_web
+from tests.plain_tubs import READY, SAVING
 
 INTERFACE = {
     "webs": {
@@ -41,14 +43,42 @@ INTERFACE = {
         "quiet_beats": "(setup, seats)", "seats_apart": "(setup, seats, other)", "seats_classes": "(setup, seats)",
         "needless_rows": "(setup, seats)", "lean_seats": "(setup, seats)", "row_asking": "(setup, seats, asking)",
     },
+    "tubs": {
+        "is_tubs": "(thing)", "tubs_of": "(setup, tubs, asking)", "tubs_after": "(setup, tubs, asking)",
+        "tubs_met": "(setup, tubs)", "tubs_web": "(setup, tubs, what)", "open_for": "(setup, deed, number)",
+        "never_short": "(setup, tubs)", "never_melts": "(setup, tubs)",
+    },
+    "tubways": {
+        "tub_lives": "(setup, tubs, asking)", "tubs_apart": "(setup, tubs, other)", "trimmed": "(setup, tubs)",
+        "tubs_classes": "(setup, tubs)", "askings_counted": "(setup, tubs, openings)",
+        "asking_back": "(setup, tubs, openings)", "best_alone": "(setup)", "alone_way": "(setup)",
+        "alone_way_holds": "(setup, fraction, thing)", "asked_best": "(setup, asking)",
+        "best_openings": "(setup, asking)",
+    },
+    "house": {
+        "is_rule": "(thing)", "bills_of": "(setup, rule, row)", "house_after": "(setup, rule, row)",
+        "house_met": "(setup, rule)", "count_of": "(setup, what, bill)", "totals_of": "(setup, rule, row)",
+        "house_web": "(setup, rule, what)", "bills_met": "(setup, rule)", "idle_rows": "(setup, rule)",
+        "without_idle": "(setup, rule)",
+    },
+    "longrun": {
+        "long_mean": "(setup, rule, what, *, least=False)", "long_ring": "(setup, rule, what, *, least=False)",
+        "long_ring_holds": "(setup, rule, what, fraction, thing)",
+        "long_paper": "(setup, rule, what, *, least=False)",
+        "long_paper_holds": "(setup, rule, what, fraction, thing, *, least=False)",
+        "most_after": "(setup, rule, what, beats, *, least=False)",
+        "most_row": "(setup, rule, what, beats, *, least=False)", "long_from": "(setup, rule, what, *, least=False)",
+        "mean_corners": "(setup, rule, what, other)",
+    },
 }
 
 # Right values of parameters that are the same for all of them.
 VALUES = {
     "thing": ([], [0]), "walk": [0], "fraction": (2, 4), "node": 0, "index": 0, "count": 4, "owner": "house",
-    "row": [((1,), 0), ((), 0)] * 9, "asking": [0, 1, 0],
+    "row": [((1,), 0), ((), 0)] * 9, "asking": [0, 1, 0], "deed": "small", "number": 3, "openings": [(2,), (), ()],
+    "bill": ((), 0, 1, (), 0, 0, 0), "beats": 12,
 }
-WORDS = {"seats": "cost", "waits": "group"}
+WORDS = {"waits": "group"}
 
 
 def functions():
@@ -64,10 +94,14 @@ def subjects(module):
     if module == "games":
         games = [*small_games(43, 10), great_game(44)]
         return [{"game": game, "way": tuple(0 if owner == "house" else None for owner in game[0])} for game in games]
-    return [
-        {"setup": setup, "seats": seats, "other": other, "what": WORDS.get(module)}
-        for setup in [SETUP, GREAT] for seats, other in [(EAGER, UNFAIR), (UNFAIR, UNFAIR)]
-    ]
+    found = []
+    for setup, seats, tubs in itertools.product([SETUP, GREAT], [EAGER, UNFAIR], [SAVING, READY]):
+        others = {"tubways": SAVING, "longrun": "away"}
+        found.append({
+            "setup": setup, "seats": seats, "tubs": tubs, "rule": (seats, tubs), "other": others.get(module, UNFAIR),
+            "what": WORDS.get(module, "cost"),
+        })
+    return found
 
 
 def arguments(function, subject):

@@ -185,6 +185,20 @@ class Waits(unittest.TestCase):
         self.assertIs(wait_ring_holds(one, first_sits, "single", (row * 2, [((), 0)], 0)), False)
         self.assertIs(wait_ring_holds(one, first_sits, "single", (row, [((), 1)], 0)), False)
 
+    def test_one_that_did_not_come_or_found_no_room(self):
+        for what, one in [("group", ((1,), 0)), ("single", ((), 1))]:
+            setup = (1, (1,), (2, 2), (1, 2), (2,), 2, (1, 1, 2, 1))
+            nobody = ((), 0)
+            for ahead, place, expected in [
+                ([one, nobody], 0, True), ([one, nobody], 1, False), ([nobody, one], 1, True), ([nobody, one], 0, False),
+                ([one, one], 1, True), ([one, one, one], 2, False), ([one, one, one], 1, True), ([one], 0, True),
+                ([((1,), 2)], 0, True), ([((1,), 2)] * 2, 1, what == "group"), ([((1,), 2)] * 3, 2, False),
+                ([one, ((1,), 2)], 1, True),
+            ]:
+                thing = (ahead, [nobody], place)
+                self.assertIs(plain_ring_holds(setup, LAZY, what, thing), expected)
+                self.assertIs(wait_ring_holds(setup, LAZY, what, thing), expected)
+
     def test_long_rings(self):
         ahead, again = [((1,), 0)], [((), 0)]
         for more, expected in [(9999, True), (10000, True), (10001, False)]:
@@ -216,7 +230,10 @@ class Waits(unittest.TestCase):
 def changed_rings(setup, ring):
     ahead, again, place = ring
     yield (ahead, again * 2, place)
-    yield (ahead + again, again, place)
+    for other in range(len(ahead + again)):
+        yield (ahead + again, again, other)
+    for comers in comers_of(setup):
+        yield (ahead + [comers] * 3, [((), 0)], len(ahead) + 2)
     for other in range(-1, len(ahead) + 1):
         yield (ahead, again, other)
     for beat, comers in itertools.product(range(len(ahead)), comers_of(setup)):
@@ -398,6 +415,8 @@ class Errors(unittest.TestCase):
             for thing in NO_SEATS:
                 with self.subTest(function=function.__name__, thing=str(thing)), self.assertRaises(BadSeats):
                     function(SETUP, thing, *[None for _ in further])
+                with self.assertRaises(BadSeats):
+                    function(SETUP, thing, *further)
             with self.assertRaises(NotDeaf):
                 function(SETUP, HEARING, *further)
             for setup, rule in [*CASES[:20], (GREAT, EAGER)]:
