@@ -177,7 +177,9 @@ def idle_rows(setup, rule):
 def used_rows(setup, rule):
     """The tuple of the ascending lists of the rows of both halves that some row of comers carries out."""
     table = house_table(setup, rule, MOST_STANDINGS)
-    return (used_in(table, lambda beat: beat[2][0]), used_in(table, lambda beat: beat[2][1]))
+    seat_rows = used_in(table, lambda beat: beat[2][0])
+    tub_rows = used_in(table, lambda beat: beat[2][1])
+    return (seat_rows, tub_rows)
 
 
 def without_idle(setup, rule):

@@ -3,7 +3,7 @@
 from parlourday.corners import ring_corners
 from parlourday.cycles import greatest_mean, greatest_means, greatest_ring
 from parlourday.house import EMPTY_HOUSE, bill_count, check_rule, check_what, counted_web, house_table
-from parlourday.numbers import bearing_numbers, first_best, turned_numbers
+from parlourday.numbers import first_best, turned_numbers
 from parlourday.plain import check_count, check_fraction, is_firm, is_pair, is_whole, turned_fraction
 from parlourday.setups import check_setup, comers_of, is_row_of
 from parlourday.sums import best_sums, holds_up, line_ahead, turned, weighed

@@ -62,7 +62,7 @@ def fault_in(thing, fits, most):
     return most if len(thing) > most else None
 
 
-def is_firm(thing, depth=4):
+def is_firm(thing, depth):
     """Whether an object is an integer, or a tuple of such, so many tuples within one another at most."""
     if isinstance(thing, tuple):
         return depth > 0 and all([is_firm(part, depth - 1) for part in thing])

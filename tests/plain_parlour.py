@@ -126,7 +126,8 @@ def lively(setups, rules, count):
             standing = house.seats_standing()
             words[(standing, comers)] = house.tell(comers)[0]
         quiet = {standing for standing, _ in words}
-        if len(set(words.values())) >= 3 and len(quiet) >= 5 and any(not line + (1,) * singles for line, singles, _ in quiet):
+        nobody_waits = any(not line and singles == 0 for line, singles, _ in quiet)
+        if len(set(words.values())) >= 3 and len(quiet) >= 5 and nobody_waits:
             found.append((setup, rule))
     return found[:count]
 

@@ -3,7 +3,7 @@
 import itertools
 from fractions import Fraction
 
-from tests.plain_parlour import ANY, EAGER, House, askings, comers_of, first_row, no_halves, standings_by, tubs_beat
+from tests.plain_parlour import ANY, EAGER, House, first_row, no_halves, standings_by, tubs_beat
 
 # a tub of the lesser kind for whoever asks and finds none
 SAVING = ((0, (1, 9), (0, 0), ANY, ANY, "small", 0),)
@@ -185,11 +185,3 @@ def all_opened(setup, asking):
                 further.append((opened + [tuple(held)], after, cost + more))
         found = further
     return sorted((opened, cost) for opened, _, cost in found)
-
-
-def all_askings(setup, length):
-    return askings(setup, length)
-
-
-def all_comers(setup):
-    return comers_of(setup)

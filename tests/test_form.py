@@ -91,6 +91,68 @@ class Form(unittest.TestCase):
                 if isinstance(node, (ast.Set, ast.SetComp)):
                     self.fail((path, node.lineno))
 
+    def test_one_lambda_on_a_line(self):
+        for path, _, tree in trees():
+            lines = [node.lineno for node in ast.walk(tree) if isinstance(node, ast.Lambda)]
+            self.assertEqual(len(lines), len(set(lines)), path)
+
+    def test_stars_and_statements_that_are_not_used(self):
+        barred = (
+            ast.Starred, ast.Try, ast.With, ast.Match, ast.Yield, ast.YieldFrom, ast.NamedExpr, ast.Nonlocal, ast.Delete,
+            ast.AnnAssign, ast.Assert,
+        )
+        for path, _, tree in trees():
+            for node in ast.walk(tree):
+                self.assertNotIsInstance(node, barred, (path, getattr(node, "lineno", None)))
+
+    def test_what_a_loop_goes_over_is_not_changed_in_it(self):
+        changing = {"append", "extend", "insert", "pop", "remove", "clear", "update", "setdefault", "reverse"}
+        for path, _, tree in trees():
+            for loop in ast.walk(tree):
+                if isinstance(loop, ast.For):
+                    names = {node.id for node in ast.walk(loop.iter) if isinstance(node, ast.Name)}
+                    for node in [node for part in loop.body for node in ast.walk(part)]:
+                        if isinstance(node, ast.Call) and isinstance(node.func, ast.Attribute):
+                            if node.func.attr in changing and isinstance(node.func.value, ast.Name):
+                                self.assertNotIn(node.func.value.id, names, (path, node.lineno))
+                        if isinstance(node, ast.Subscript) and isinstance(node.ctx, ast.Store):
+                            if isinstance(node.value, ast.Name):
+                                self.assertNotIn(node.value.id, names, (path, node.lineno))
+
+    def test_files_do_not_import_one_another(self):
+        imports = {
+            path.stem: {
+                node.module.split(".")[1] for node in ast.walk(tree)
+                if isinstance(node, ast.ImportFrom) and node.module.startswith("parlourday.")
+            }
+            for path, _, tree in trees()
+        }
+        while imports:
+            free = [name for name, needed in imports.items() if not needed & set(imports)]
+            self.assertNotEqual(free, [], imports)
+            imports = {name: needed for name, needed in imports.items() if name not in free}
+
+    def test_imports_name_the_file_that_defines(self):
+        defined = {
+            f"parlourday.{path.stem}": {
+                name for node in tree.body for name in (
+                    [node.name] if isinstance(node, (ast.FunctionDef, ast.ClassDef))
+                    else [target.id for target in node.targets] if isinstance(node, ast.Assign) else []
+                )
+            }
+            for path, _, tree in trees()
+        }
+        for path, _, tree in trees():
+            for node in ast.walk(tree):
+                if isinstance(node, ast.ImportFrom) and node.module in defined:
+                    for alias in node.names:
+                        self.assertIn(alias.name, defined[node.module], (path, node.lineno))
+            read = {node.id for node in ast.walk(tree) if isinstance(node, ast.Name)}
+            for node in tree.body:
+                if isinstance(node, ast.ImportFrom):
+                    for alias in node.names:
+                        self.assertIn(alias.name, read, path)
+
     def test_names_that_differ_from_those_further_out(self):
         """A variable of a comprehension within a function or comprehension is not one of those around it."""
         for path, _, tree in trees():

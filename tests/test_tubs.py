@@ -6,7 +6,7 @@ from parlourday.tubs import is_tubs, never_melts, never_short, open_for, tubs_af
 from parlourday.webs import is_web, walk_end
 
 from tests.plain_parlour import (
-    ANY, GREAT, NO_SETUPS, SETUP, askings, askings_up_to, changed_at, plain_web, run_tubs, some_setups, some_tubs,
+    ANY, GREAT, NO_SETUPS, SETUP, askings_up_to, changed_at, plain_web, run_tubs, some_setups, some_tubs,
     tubs_beat, turning_tubs,
 )
 from tests.plain_search import NO_COUNTS
@@ -59,7 +59,10 @@ class Askings(unittest.TestCase):
         self.assertEqual(tubs_after(GREAT, READY, [4]), (((1, 2),), 0))
         self.assertEqual(tubs_after(GREAT, READY, [4, 4]), (((1, 1),), 0))
         self.assertEqual(tubs_of(GREAT, READY, [4, 4, 0, 0])[2:], [((), 0, 0, 0), ((), 0, 0, 1)])
-        both = ((0, ANY, (0, 0), (9, 9), ANY, "small", 1), (1, ANY, (1, 1), (0, 0), ANY, "great", 2), (2, ANY, ANY, ANY, ANY, "rest", 0))
+        both = (
+            (0, ANY, (0, 0), (9, 9), ANY, "small", 1), (1, ANY, (1, 1), (0, 0), ANY, "great", 2),
+            (2, ANY, ANY, ANY, ANY, "rest", 0),
+        )
         self.assertEqual(tubs_of(GREAT, both, [0, 2]), [((1, 3), 0, 0, 0), ((), 2, 0, 0)])
         self.assertEqual(tubs_after(GREAT, both, [0, 2]), (((2, 2),), 0))
         third = ((0, ANY, ANY, ANY, ANY, "small", 0),)
@@ -240,11 +243,6 @@ class Never(unittest.TestCase):
                     asked(SETUP, thing)
             with self.assertRaises(NotDeaf):
                 asked(SETUP, HEARING_TUBS)
-
-
-class Searches(unittest.TestCase):
-    def test_askings_are_in_order(self):
-        self.assertEqual(askings(SETUP, 1), [[0], [1], [2]])
 
 
 if __name__ == "__main__":

@@ -96,6 +96,10 @@ class Apart(unittest.TestCase):
         self.assertEqual(len(tub_pairs(MANY, rules[55], rules[30])), 603)
         # also where the first asking tells them apart
         self.assertEqual(len(plain_tubs_apart(MANY, rules[55], rules[30])), 1)
+        other = changed_at(MANY, (4,), (2, 4))
+        self.assertEqual(len(tub_pairs(other, rules[57], rules[65])), 601)
+        with self.assertRaises(TooMany):
+            tubs_apart(other, rules[57], rules[65])
         for rule, other in [(55, 30), (30, 55), (65, 27)]:
             with self.assertRaises(TooMany):
                 tubs_apart(MANY, rules[rule], rules[other])
@@ -266,8 +270,37 @@ class Alone(unittest.TestCase):
             dearest = max(done(setup, tubs, asked, "rest")[1] for tubs, asked in places_alone(setup))
             way = [(tubs, asked, "rest", -7) for tubs, asked in places_alone(setup)]
             self.assertIs(alone_way_holds(setup, (dearest, 1), way), True)
+            for deed in ["go", "group", None, 0, b"rest"]:
+                wrong = [entry if entry[:2] != ((), 0) else ((), 0, deed, -7) for entry in way]
+                self.assertIs(alone_way_holds(setup, (dearest, 1), wrong), False)
             self.assertIs(alone_way_holds(setup, (10 * dearest - 1, 10), way), False)
-        self.assertLessEqual(max(len(places_alone((4, (1,), (1, 0), (1, 1), kinds, 3, (1, 1, 1, 1)))) for kinds in [(4,), (3, 4)]), 275)
+        most = changed_at(MANY, (4,), (1, 4))
+        self.assertEqual(len(places_alone(most)), 275)
+        mean = best_alone(most)
+        self.assertIs(plain_way_holds(most, mean, alone_way(most)), True)
+        self.assertIs(alone_way_holds(most, mean, alone_way(most)), True)
+
+    def test_each_first_asking_stands_in_it(self):
+        # a further tub is opened at each beat, so that some tub is always open
+        setup = (1, (1,), (1, 0), (1, 0), (4,), 3, (1, 1, 1, 1))
+
+        def deed_at(tubs):
+            return "small" if len(tubs) < 2 and (not tubs or tubs[-1][0] > 0) else "rest"
+
+        def way_from(asks):
+            known, fresh = set(), [((), asked) for asked in asks]
+            while fresh:
+                tubs, asked = fresh.pop()
+                if (tubs, asked) not in known:
+                    known.add((tubs, asked))
+                    deed = deed_at(tubs)
+                    after, _ = done(setup, tubs, asked, deed)
+                    fresh += [(after, coming) for coming in [0, 1]] if deed == "rest" else [(after, asked)]
+            return [(tubs, asked, deed_at(tubs), 0) for tubs, asked in sorted(known)]
+
+        for asks, expected in [([0, 1], True), ([0], False), ([1], False)]:
+            self.assertIs(alone_way_holds(setup, (99, 1), way_from(asks)), expected)
+            self.assertIs(plain_way_holds(setup, (99, 1), way_from(asks)), expected)
 
     def test_other_objects(self):
         way = alone_way(SETUP)
