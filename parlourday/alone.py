@@ -4,9 +4,7 @@ A place is a tuple (tubs, asked): the tubs as they are in a beat; asked is None 
 """
 
 from parlourday.cellar import end_beat, tub_deeds, tubs_cost, with_tub
-from parlourday.contests import contest_mean, weighed_moves
-from parlourday.energy import least_needs
-from parlourday.graphs import search
+from parlourday.contests import contest_from, contest_mean, held_entries
 
 EMPTY = ((), None)
 
@@ -28,22 +26,9 @@ def deed_move(setup, place, deed):
     return (tubs_cost(setup, unserved, melted), 1, (left, None))
 
 
-def all_places(setup):
-    """The dict of all places to which deeds and askings can lead, with the lists of their moves."""
-    found = search(EMPTY, lambda place: [target for _, _, target in place_moves(setup, place)])
-    return {place: place_moves(setup, place) for place in found}
-
-
 def alone_contest(setup):
-    """The tuple (places, owned, moves) of the contest of the tubs with those who ask."""
-    table = all_places(setup)
-    places = list(table)
-    numbers = {place: number for number, place in enumerate(places)}
-    moves = [
-        [(weight, length, numbers[target]) for weight, length, target in table[place]]
-        for place in places
-    ]
-    return (places, [asked is not None for _, asked in places], moves)
+    """The contest (places, owned, moves) of the tubs with those who ask."""
+    return contest_from(EMPTY, lambda place: (place[1] is not None, place_moves(setup, place)))
 
 
 def alone_mean(contest):
@@ -56,17 +41,9 @@ def alone_mean(contest):
 def alone_entries(setup):
     """The ascending list of the entries (tubs, asked, deed, number) of a way that holds the cost to alone_mean."""
     contest = alone_contest(setup)
-    places, owned, moves = contest
-    needs, way = least_needs(owned, weighed_moves(moves, alone_mean(contest)))
-
-    def leads(number):
-        options = moves[number] if way[number] is None else [moves[number][way[number]]]
-        return [target for _, _, target in options]
-
-    reached = [number for number in search(0, leads) if owned[number]]
     return sorted([
-        places[number] + (tub_deeds(places[number][0])[way[number]], needs[number])
-        for number in reached
+        place + (tub_deeds(place[0])[index], need)
+        for place, index, need in held_entries(contest, alone_mean(contest))
     ])
 
 

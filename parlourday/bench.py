@@ -36,12 +36,12 @@ def come_in(setup, line, singles, comers):
 
 
 def bench_deeds(line, singles, left):
-    """The tuple of the deeds that can be done at a bench with so many seats left."""
+    """The tuple of the deeds that can be done at a bench with so many seats left: group, single, go."""
     deeds = ("go",)
-    if line and line[0] <= left:
-        deeds = ("group",) + deeds
     if singles > 0 and left > 0:
         deeds = ("single",) + deeds
+    if line and line[0] <= left:
+        deeds = ("group",) + deeds
     return deeds
 
 

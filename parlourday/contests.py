@@ -5,6 +5,8 @@ weights, divided by that of its lengths, which is never 0. The house wants small
 """
 
 from parlourday.energy import least_needs
+from parlourday.errors import TooMany
+from parlourday.graphs import search
 from parlourday.plain import lowest_terms
 
 
@@ -83,3 +85,55 @@ def fraction_between(under, top, cells):
     while top * length // cells * cells <= under * length:
         length += 1
     return lowest_terms((top * length // cells, length))
+
+
+def contest_from(first, options, most=None):
+    """The contest (places, owned, moves) of all places that come from a first one.
+
+    options(place) tells whether the house chooses there, and its moves, with places as targets. places
+    is a dict with their numbers, that of the first one 0. TooMany if the house chooses at more than most.
+    """
+    places = {first: 0}
+    waiting = [first]
+    owned = []
+    moves = []
+    while len(owned) < len(waiting):
+        mine, leads = options(waiting[len(owned)])
+        owned.append(mine)
+        moves.append(leads)
+        for _, _, target in leads:
+            if target not in places:
+                places[target] = len(places)
+                waiting.append(target)
+        if most is not None and mine and owned.count(True) > most:
+            raise TooMany(f"the house can come to choose at more than {most}")
+    numbered = [[(weight, length, places[target]) for weight, length, target in leads] for leads in moves]
+    return (places, owned, numbered)
+
+
+def held_entries(contest, fraction):
+    """The list of (place, index, need) of a way by which the house holds a contest to a fraction.
+
+    Of the places that come by it, those at which the house chooses, with the index of the chosen move.
+    """
+    places, owned, moves = contest
+    needs, way = least_needs(owned, weighed_moves(moves, fraction))
+
+    def leads(number):
+        options = moves[number] if way[number] is None else [moves[number][way[number]]]
+        return [target for _, _, target in options]
+
+    met = search(0, leads)
+    return [
+        (place, way[number], needs[number])
+        for place, number in places.items() if owned[number] and number in met
+    ]
+
+
+def turned_contest(contest):
+    """The contest seen from the guests: with the owners exchanged and each weight with the other sign."""
+    places, owned, moves = contest
+    return (
+        places, [not mine for mine in owned],
+        [[(-weight, length, target) for weight, length, target in options] for options in moves],
+    )

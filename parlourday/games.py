@@ -4,7 +4,7 @@ from parlourday.contests import contest_mean, contest_means, weighed_moves
 from parlourday.cycles import greatest_mean
 from parlourday.energy import least_needs
 from parlourday.errors import BadGame, BadOwner, BadWay
-from parlourday.numbers import bears, caps, first_best
+from parlourday.numbers import bears, caps, walk_by_lines
 from parlourday.plain import check_count, check_fraction, is_pair, is_whole_in, turned_fraction
 from parlourday.sums import best_sums, turned, weighed
 from parlourday.webs import is_web
@@ -201,11 +201,4 @@ def steps_play(game, count):
     """The list of the indexes of so many moves from node 0, each the first best one of its owner."""
     check_game(game)
     check_count(count, 0, MOST_STEPS)
-    lines = lines_left(game, count)
-    play = []
-    node = 0
-    for left in range(count, 0, -1):
-        index = first_best(game[1][node], lines[left - 1], lines[left][node])
-        play.append(index)
-        node = game[1][node][index][1]
-    return play
+    return walk_by_lines(game[1], lines_left(game, count), 0)

@@ -3,10 +3,10 @@
 from parlourday.corners import ring_corners
 from parlourday.cycles import greatest_mean, greatest_means, greatest_ring
 from parlourday.house import EMPTY_HOUSE, bill_count, check_rule, check_what, counted_web, house_table
-from parlourday.numbers import first_best, turned_numbers
+from parlourday.numbers import turned_numbers, walk_by_lines
 from parlourday.plain import check_count, check_fraction, is_firm, is_pair, is_whole, turned_fraction
-from parlourday.setups import check_setup, comers_of, is_row_of
-from parlourday.sums import best_sums, holds_up, line_ahead, turned, weighed
+from parlourday.setups import check_setup, comers_of, is_row_of, row_at
+from parlourday.sums import best_sums, holds_up, lines_ahead, turned, weighed
 from parlourday.webs import MOST_NODES
 
 MOST_BEATS_AHEAD = 30
@@ -43,8 +43,7 @@ def long_ring(setup, rule, what, *, least=False):
     check_counted(setup, rule, what)
     table = house_table(setup, rule, MOST_NODES)
     ahead, again = greatest_ring(signed_web(setup, table, what, least))
-    coming = comers_of(setup)
-    return ([coming[index] for index in ahead], [coming[index] for index in again])
+    return (row_at(setup, ahead), row_at(setup, again))
 
 
 def long_ring_holds(setup, rule, what, fraction, thing):
@@ -113,7 +112,7 @@ def most_after(setup, rule, what, beats, *, least=False):
     check_counted(setup, rule, what)
     check_count(beats, 0, MOST_BEATS_AHEAD)
     web = signed_web(setup, house_table(setup, rule, MOST_NODES), what, least)
-    most = beat_lines(web, beats)[beats][0]
+    most = lines_ahead(web, [0] * len(web), beats)[beats][0]
     return -most if least else most
 
 
@@ -122,23 +121,7 @@ def most_row(setup, rule, what, beats, *, least=False):
     check_counted(setup, rule, what)
     check_count(beats, 0, MOST_BEATS_AHEAD)
     web = signed_web(setup, house_table(setup, rule, MOST_NODES), what, least)
-    lines = beat_lines(web, beats)
-    coming = comers_of(setup)
-    row = []
-    node = 0
-    for left in range(beats, 0, -1):
-        index = first_best(web[node], lines[left - 1], lines[left][node])
-        row.append(coming[index])
-        node = web[node][index][1]
-    return row
-
-
-def beat_lines(web, beats):
-    """For 0 to so many beats, the greatest sums of walks of so many moves from each node."""
-    lines = [[0] * len(web)]
-    for _ in range(beats):
-        lines.append(line_ahead(web, lines[-1]))
-    return lines
+    return row_at(setup, walk_by_lines(web, lines_ahead(web, [0] * len(web), beats), 0))
 
 
 def long_from(setup, rule, what, *, least=False):

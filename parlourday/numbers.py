@@ -107,9 +107,15 @@ def shortest_walk(web, total):
     lines = [[0] * len(web)]
     while lines[-1][0] != total:
         lines.append(line_ahead(web, lines[-1]))
+    return walk_by_lines(web, lines, 0)
+
+
+def walk_by_lines(web, lines, node):
+    """The first walk from a node by which the best sums come about that lines tell, the last one at first.
+
+    What a line tells of the way still to go leaves just the moves that keep the sum in reach.
+    """
     walk = []
-    node = 0
-    # What a line tells of the way still to go leaves just the moves that keep the sum in reach.
     for count in range(len(lines) - 1, 0, -1):
         index = first_best(web[node], lines[count - 1], lines[count][node])
         walk.append(index)

@@ -39,6 +39,11 @@ def lowest_terms(fraction):
     return (above // shared, below // shared)
 
 
+def fraction_sum(fraction, other):
+    """The sum of two fractions, in lowest terms."""
+    return lowest_terms((fraction[0] * other[1] + other[0] * fraction[1], fraction[1] * other[1]))
+
+
 def is_greater(fraction, other):
     """Whether a fraction is above another one."""
     return fraction[0] * other[1] > other[0] * fraction[1]

@@ -64,6 +64,14 @@ def is_comers(setup, thing):
     return len(thing[0]) <= setup[3][0] and all([is_whole(size) and size in setup[1] for size in thing[0]])
 
 
+def row_at(setup, indexes):
+    """The row of the comers with these indexes in all_comers, None for None."""
+    if indexes is None:
+        return None
+    coming = comers_of(setup)
+    return [coming[index] for index in indexes]
+
+
 def is_row_of(setup, thing, most):
     """Whether any object is a row of comers of at most so many beats."""
     return fault_in(thing, lambda entry: is_comers(setup, entry), most) is None

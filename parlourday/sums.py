@@ -54,6 +54,14 @@ def line_ahead(web, line):
     return [max([weight + line[target] for weight, target in moves]) for moves in web]
 
 
+def lines_ahead(web, line, count):
+    """The list of a line and, for 1 to so many moves, of those that are so many moves longer."""
+    lines = [line]
+    for _ in range(count):
+        lines.append(line_ahead(web, lines[-1]))
+    return lines
+
+
 def best_sums(web):
     """The tuple of the greatest sum of a walk from each node that is met, of 0 for the others.
 

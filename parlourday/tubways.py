@@ -1,7 +1,7 @@
 """What becomes of tubs, which deaf tub rules tell the same, and the best that tubs alone can do."""
 
 from parlourday.alone import (
-    EMPTY, alone_contest, alone_entries, alone_mean, all_places, entry_holds, first_openings, known_costs,
+    EMPTY, alone_contest, alone_entries, alone_mean, entry_holds, first_openings, known_costs,
     opening_table,
 )
 from parlourday.cellar import CLOSED, eaten_of, end_beat, open_tubs, tub_deeds
@@ -127,7 +127,7 @@ def alone_way_holds(setup, fraction, thing):
     check_fraction(fraction)
     if not isinstance(thing, list):
         return False
-    places = all_places(setup)
+    places, _, _ = alone_contest(setup)
     numbers = {}
     for entry in thing:
         if not is_entry(entry, places) or entry[:2] in numbers:

@@ -5,7 +5,7 @@ from parlourday.endless import endless_ring, endless_start, longest_stay, ring_i
 from parlourday.errors import BadWhat
 from parlourday.plain import check_count
 from parlourday.seats import check_deaf_seats, seats_table
-from parlourday.setups import check_asking, check_deaf, check_seats, check_setup, comers_of
+from parlourday.setups import check_asking, check_deaf, check_seats, check_setup, row_at
 from parlourday.sums import line_ahead, turned
 from parlourday.tables import classes_of, first_beat, first_with, pair_table, table_web
 
@@ -56,10 +56,9 @@ def wait_ring(setup, seats, what):
     found = endless_start(setup, table, what)
     if found is None:
         return None
-    coming = comers_of(setup)
     endless, start = found
     ahead, again, place = endless_ring(table, endless, start)
-    return ([coming[index] for index in ahead], [coming[index] for index in again], place)
+    return (row_at(setup, ahead), row_at(setup, again), place)
 
 
 def wait_ring_holds(setup, seats, what, thing):
@@ -95,7 +94,7 @@ def row_apart(setup, seats, other):
     """The first shortest row that tells two deaf rules apart."""
     table = pair_table(seats_table(setup, seats), NOBODY, seats_table(setup, other), NOBODY)
     found = first_beat(table, (NOBODY, NOBODY), lambda beat: beat[1][1] != beat[2][1])
-    return None if found is None else [comers_of(setup)[index] for index in found]
+    return row_at(setup, found)
 
 
 def seats_classes(setup, seats):
@@ -137,4 +136,4 @@ def row_asking(setup, seats, asking):
     check_asking(setup, asking)
     check_deaf(seats)
     found = first_with(seats_table(setup, seats), NOBODY, asking, lambda beat: seated(beat[1][0]))
-    return None if found is None else [comers_of(setup)[index] for index in found]
+    return row_at(setup, found)

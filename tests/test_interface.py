@@ -70,15 +70,42 @@ INTERFACE = {
         "most_row": "(setup, rule, what, beats, *, least=False)", "long_from": "(setup, rule, what, *, least=False)",
         "mean_corners": "(setup, rule, what, other)",
     },
+    "halves": {
+        "halves": "(setup, rule)", "short_of": "(setup, rule)", "meeting": "(setup, rule)", "safe": "(setup, rule)",
+        "least_open": "(setup, seats)", "first_unasked": "(setup, seats)", "reset_row": "(setup, rule)",
+    },
+    "beside": {
+        "alike": "(setup, rule, other)", "greatest_gap": "(setup, rule, other)", "gap_row": "(setup, rule, other)",
+        "mean_gap": "(setup, rule, other)", "harm": "(setup, tubs, seats, other)",
+        "never_harms": "(setup, tubs, seats, other)", "deafened": "(rule)", "listens": "(setup, rule)",
+        "one_more": "(setup, rule)", "one_more_row": "(setup, rule)", "felt_for": "(setup, rule)",
+        "gap_paper": "(setup, rule, other)", "gap_paper_holds": "(setup, rule, other, most, thing)",
+    },
+    "best": {
+        "views_met": "(setup)", "best_mean": "(setup)", "best_way": "(setup)", "worst_guests": "(setup)",
+        "best_way_holds": "(setup, fraction, thing)", "worst_guests_hold": "(setup, fraction, thing)",
+        "best_tubs": "(setup, seats)", "best_seats": "(setup, tubs)", "regret": "(setup, rule)",
+        "rule_way": "(setup, rule)", "best_from": "(setup, view)", "kept_deeds": "(setup, view)",
+        "best_without": "(setup, what)", "best_steps": "(setup, count)",
+    },
+    "days": {
+        "day_cost": "(setup, rule, beats)", "day_row": "(setup, rule, beats)", "best_day": "(setup, beats)",
+        "day_table": "(setup, beats)", "day_table_holds": "(setup, beats, most, thing)", "known_day": "(setup, row)",
+        "known_deeds": "(setup, row)", "deeds_cost": "(setup, row, thing)", "day_regret": "(setup, rule, row)",
+        "worst_regret": "(setup, rule, beats)", "worst_regret_row": "(setup, rule, beats)",
+    },
 }
 
 # Right values of parameters that are the same for all of them.
 VALUES = {
     "thing": ([], [0]), "walk": [0], "fraction": (2, 4), "node": 0, "index": 0, "count": 4, "owner": "house",
     "row": [((1,), 0), ((), 0)] * 9, "asking": [0, 1, 0], "deed": "small", "number": 3, "openings": [(2,), (), ()],
-    "bill": ((), 0, 1, (), 0, 0, 0), "beats": 12,
+    "bill": ((), 0, 1, (), 0, 0, 0), "beats": 12, "most": 7, "view": ("seat", (), 0, (), 2),
 }
-WORDS = {"waits": "group"}
+WORDS = {"waits": "group", "best": "melted"}
+# Such as some modules take no greater ones, and some that are right for no other ones.
+FEWER = {"days": {"beats": 2, "row": [((), 0), ((), 0)] * 5, "thing": [("go", "rest"), ("go", "small", "rest")] * 5}}
+SMALLER = (2, (2,), (1, 1), (1, 1), (1, 3), 2, (2, 3, 4, 1))
 
 
 def functions():
@@ -95,17 +122,22 @@ def subjects(module):
         games = [*small_games(43, 10), great_game(44)]
         return [{"game": game, "way": tuple(0 if owner == "house" else None for owner in game[0])} for game in games]
     found = []
-    for setup, seats, tubs in itertools.product([SETUP, GREAT], [EAGER, UNFAIR], [SAVING, READY]):
-        others = {"tubways": SAVING, "longrun": "away"}
+    setups = [SETUP, SMALLER] if module in ("best", "days") else [SETUP, GREAT]
+    for setup, seats, tubs in itertools.product(setups, [EAGER, UNFAIR], [SAVING, READY]):
+        others = {"tubways": SAVING, "longrun": "away", "beside": (UNFAIR, ())}
         found.append({
             "setup": setup, "seats": seats, "tubs": tubs, "rule": (seats, tubs), "other": others.get(module, UNFAIR),
-            "what": WORDS.get(module, "cost"),
+            "what": WORDS.get(module, "cost"), **FEWER.get(module, {}),
         })
     return found
 
 
 def arguments(function, subject):
     values = {**VALUES, **subject}
+    if function.__name__ in ("harm", "never_harms"):
+        values["other"] = UNFAIR
+    if function.__name__ in ("worst_guests_hold", "best_way_holds", "day_table_holds"):
+        values["thing"] = []
     return {
         name: copy.deepcopy(values[name]) for name, parameter in inspect.signature(function).parameters.items()
         if parameter.kind is parameter.POSITIONAL_OR_KEYWORD
