@@ -188,30 +188,37 @@ def least_deeds(setup, row):
 def known_costs(setup, beats):
     """For each row of so many beats, as a tuple of indexes, ascending, the least cost of a day with it."""
     openings = opening_table(setup)
-    coming = comers_of(setup)
-    ends = {}
-
-    def beat_ends(start, index):
-        if (start, index) not in ends:
-            behind = known_beat(setup, openings, start, coming[index])
-            ends[(start, index)] = [(after, cost) for after, (cost, _) in behind.items()]
-        return ends[(start, index)]
-
+    count = len(comers_of(setup))
     layers = {(): {EMPTY_START: 0}}
     for _ in range(beats - 1):
+        ends = ends_behind(setup, openings, starts_of(layers))
         layers = {
-            row + (index,): least_behind(layer, [(start, beat_ends(start, index)) for start in layer])
-            for row, layer in layers.items() for index in range(len(coming))
+            row + (index,): least_behind(layer, [(start, ends[(start, index)]) for start in layer])
+            for row, layer in layers.items() for index in range(count)
         }
-    starts = sorted(set([start for layer in layers.values() for start in layer]))
     last = {
-        (start, index): min([cost + end_cost(setup, after) for after, cost in beat_ends(start, index)])
-        for start in starts for index in range(len(coming))
+        place: min([cost + end_cost(setup, after) for after, cost in behind])
+        for place, behind in ends_behind(setup, openings, starts_of(layers)).items()
     }
     return {
         row + (index,): min([paid + last[(start, index)] for start, paid in layer.items()])
-        for row, layer in layers.items() for index in range(len(coming))
+        for row, layer in layers.items() for index in range(count)
     }
+
+
+def starts_of(layers):
+    """The ascending list of all starts of some layers."""
+    return sorted(set([start for layer in layers.values() for start in layer]))
+
+
+def ends_behind(setup, openings, starts):
+    """For each start and index of comers the list of (start, cost) of what the beat can lead to."""
+    ends = {}
+    for start in starts:
+        for index, comers in enumerate(comers_of(setup)):
+            behind = known_beat(setup, openings, start, comers)
+            ends[(start, index)] = [(after, cost) for after, (cost, _) in behind.items()]
+    return ends
 
 
 def least_behind(layer, ends):

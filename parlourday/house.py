@@ -49,9 +49,8 @@ def house_table(setup, rule, most):
     )
 
 
-def run_house(setup, rule, row):
+def run_house(setup, rule, row, standing=EMPTY_HOUSE):
     """The tuple (standing, bills) of the standing after a row and the list of the bills of its beats."""
-    standing = EMPTY_HOUSE
     bills = []
     for comers in row:
         standing, bill, _ = house_beat(setup, rule, standing, comers)
@@ -139,6 +138,11 @@ def totals_of(setup, rule, row):
     """The tuple of the seven sums of the bills of a row, in the order of the words."""
     check_house_row(setup, rule, row)
     _, bills = run_house(setup, rule, row)
+    return bill_totals(setup, bills)
+
+
+def bill_totals(setup, bills):
+    """The tuple of the seven sums of bills, in the order of the words."""
     return tuple([sum([bill_count(setup, what, bill) for bill in bills]) for what in HOUSE_WORDS])
 
 

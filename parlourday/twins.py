@@ -113,7 +113,7 @@ def felt_beats(twins):
     """
 
     def unlike(pair):
-        return [after for after, _, _ in twins[pair] if after[0] != after[1]]
+        return [behind for behind, _, _ in twins[pair] if behind[0] != behind[1]]
 
     layer = {after: True for after in unlike(BEFORE)}
     count = -1

@@ -82,6 +82,7 @@ class Form(unittest.TestCase):
         allowed = {
             "len", "range", "enumerate", "zip", "min", "max", "sum", "abs", "sorted", "reversed", "int", "str", "bool",
             "list", "tuple", "dict", "set", "isinstance", "ord", "repr", "any", "all", "divmod", "super", "ValueError",
+            "iter", "property",
         }
         for path, _, tree in trees():
             for node in ast.walk(tree):

@@ -6,6 +6,9 @@ import inspect
 import itertools
 import unittest
 
+from parlourday.live import Parlour
+from parlourday.texts import show_house, show_seats, show_setup, show_tubs
+
 from tests.plain_games import great_game, small_games
 from tests.plain_parlour import EAGER, GREAT, SETUP, UNFAIR
 from tests.plain_search import small_webs, wide_web
@@ -94,6 +97,32 @@ INTERFACE = {
         "known_deeds": "(setup, row)", "deeds_cost": "(setup, row, thing)", "day_regret": "(setup, rule, row)",
         "worst_regret": "(setup, rule, beats)", "worst_regret_row": "(setup, rule, beats)",
     },
+    "boards": {
+        "boards_of": "(setup, rule, row)", "standings_back": "(setup, rule, boards)",
+        "row_back": "(setup, rule, boards)", "rows_counted": "(setup, rule, boards)",
+        "next_boards": "(setup, rule, boards)", "costs_back": "(setup, rule, boards)",
+        "comers_back": "(setup, rule, boards)", "standings_seen": "(setup, rule, boards)",
+        "told_apart": "(setup, rule, other, boards)", "boards_counted": "(setup, rule, count)",
+        "first_sure": "(setup, rule)", "first_untold": "(setup, rule)", "first_told": "(setup, rule, other)",
+        "board_paper": "(setup, rule, other)", "board_paper_holds": "(setup, rule, other, thing)",
+    },
+    "texts": {
+        "show_setup": "(setup)", "show_seats": "(seats)", "show_tubs": "(tubs)", "show_row": "(row)",
+        "show_bill": "(bill)", "read_setup": "(text)", "read_seats": "(text)", "read_tubs": "(text)",
+        "read_row": "(setup, text)", "show_house": "(setup, rule)", "read_house": "(text)",
+    },
+    "desk": {"rows_for": "(parlour)"},
+}
+# The parameters of classes, and those of their methods.
+CLASSES = {
+    ("live", "Parlour"): ("(setup, rule=((), ()))", {
+        "beat": "(self, groups, singles)", "change_seats": "(self, rule)", "change_tubs": "(self, rule)",
+        "close": "(self)", "undo": "(self)", "row": "(self)", "bills": "(self)", "closings": "(self)",
+        "standing": "(self)", "rule": "(self)", "totals": "(self)", "copy": "(self)", "boards": "(self)",
+        "totals_by": "(self, rule)", "ahead": "(self, what, beats)", "ahead_row": "(self, what, beats)",
+        "try_rules": "(self, rules, row)",
+    }),
+    ("desk", "Desk"): ("()", {"say": "(self, row)", "parlour": "(self)"}),
 }
 
 # Right values of parameters that are the same for all of them.
@@ -101,6 +130,7 @@ VALUES = {
     "thing": ([], [0]), "walk": [0], "fraction": (2, 4), "node": 0, "index": 0, "count": 4, "owner": "house",
     "row": [((1,), 0), ((), 0)] * 9, "asking": [0, 1, 0], "deed": "small", "number": 3, "openings": [(2,), (), ()],
     "bill": ((), 0, 1, (), 0, 0, 0), "beats": 12, "most": 7, "view": ("seat", (), 0, (), 2),
+    "boards": [(0, 0, 1), (0, 0, 0)], "parlour": Parlour(SETUP),
 }
 WORDS = {"waits": "group", "best": "melted"}
 # Such as some modules take no greater ones, and some that are right for no other ones.
@@ -124,7 +154,7 @@ def subjects(module):
     found = []
     setups = [SETUP, SMALLER] if module in ("best", "days") else [SETUP, GREAT]
     for setup, seats, tubs in itertools.product(setups, [EAGER, UNFAIR], [SAVING, READY]):
-        others = {"tubways": SAVING, "longrun": "away", "beside": (UNFAIR, ())}
+        others = {"tubways": SAVING, "longrun": "away", "beside": (UNFAIR, ()), "boards": (UNFAIR, ())}
         found.append({
             "setup": setup, "seats": seats, "tubs": tubs, "rule": (seats, tubs), "other": others.get(module, UNFAIR),
             "what": WORDS.get(module, "cost"), **FEWER.get(module, {}),
@@ -138,6 +168,13 @@ def arguments(function, subject):
         values["other"] = UNFAIR
     if function.__name__ in ("worst_guests_hold", "best_way_holds", "day_table_holds"):
         values["thing"] = []
+    if function.__module__ == "parlourday.texts" and "text" in inspect.signature(function).parameters:
+        texts = {
+            "read_setup": lambda: show_setup(values["setup"]), "read_seats": lambda: show_seats(values["seats"]),
+            "read_tubs": lambda: show_tubs(values["tubs"]), "read_row": lambda: "1+0 -+0 2+0",
+            "read_house": lambda: show_house(values["setup"], values["rule"]),
+        }
+        values["text"] = texts[function.__name__]()
     return {
         name: copy.deepcopy(values[name]) for name, parameter in inspect.signature(function).parameters.items()
         if parameter.kind is parameter.POSITIONAL_OR_KEYWORD
@@ -161,6 +198,14 @@ class Interface(unittest.TestCase):
                 self.assertEqual(function.__module__, f"parlourday.{module}")
                 self.assertEqual(function.__name__, name)
                 self.assertEqual(str(inspect.signature(function)), INTERFACE[module][name])
+
+    def test_classes_and_their_methods(self):
+        for (module, name), (parameters, methods) in CLASSES.items():
+            found = getattr(importlib.import_module(f"parlourday.{module}"), name)
+            self.assertEqual((found.__module__, found.__name__), (f"parlourday.{module}", name))
+            self.assertEqual(str(inspect.signature(found)), parameters)
+            for method, expected in methods.items():
+                self.assertEqual(str(inspect.signature(vars(found)[method])), expected)
 
     def test_by_position_and_by_name_and_again(self):
         for module, name, function in functions():
