@@ -215,50 +215,6 @@ class Papers(unittest.TestCase):
         self.assertIs(worst_guests_hold(setup=setup, fraction=mean, thing=guests), True)
 
 
-def half_steps(setup, seats, tubs, beats):
-    """The least cost of so many beats with one half free (its rule None), those away at the first beat aside."""
-    memo = {}
-
-    def least(start, moods, view, left):
-        key = (start, moods, view, left)
-        if key not in memo:
-            memo[key] = min(best_further(view, moods, left))
-        return memo[key]
-
-    def best_further(view, moods, left):
-        for deed in can_do(view):
-            after, counts = do(setup, view, deed)
-            cost = price(setup, counts)
-            if deed == "rest":
-                yield cost + later(after, moods, left - 1)
-            elif deed == "go" and tubs is not None:
-                house = set_house(setup, (), tubs, (after[1], after[2], after[3], moods))
-                word = house.serve(after[4], len(after[1]) + after[2])
-                cost += word[2] * setup[6][2] + word[3] * setup[6][1]
-                yield cost + later((after[1], after[2], house.tubs_now()), tuple(house.moods), left - 1)
-            else:
-                yield cost + least(None, moods, after, left)
-
-    def later(start, moods, left):
-        if left == 0:
-            return 0
-        costs = []
-        for away, view in arrivals(setup, start):
-            cost = away * setup[6][3] if left < beats else 0
-            if seats is None:
-                costs.append(cost + least(None, moods, view, left))
-            else:
-                house = set_house(setup, seats, (), (view[1], view[2], view[3], moods))
-                deeds, empty = house.sit(house.portions())
-                line, singles, mood = house.seats_standing()
-                asked = sum(size for _, size in deeds)
-                further = ("tub", line, singles, view[3], asked)
-                costs.append(cost + empty * setup[6][0] + least(None, (mood, moods[1]), further, left))
-        return max(costs)
-
-    return later(FIRST, (0, 0), beats)
-
-
 class Halves(unittest.TestCase):
     def test_by_hand(self):
         self.assertEqual(best_mean(SETUP), (1, 2))
@@ -267,21 +223,26 @@ class Halves(unittest.TestCase):
         self.assertEqual(best_tubs(SETUP, ()), (4, 1))
         self.assertEqual(best_seats(setup=SETUP, tubs=()), (4, 1))
 
-    def test_over_many_beats(self):
-        # the least cost of n beats is near n times the mean: by less than what the first beats can change
-        far = 0
-        for place, setup in enumerate(TINY[3:] + MORE[:14]):
+    def test_both_hold_it(self):
+        # numbers settle for the house, and for the guests as well: so the mean is just this one
+        means = set()
+        for place, setup in enumerate(TINY[3:] + MORE[:30] + BEHIND):
             seats = (turning_seats(461, 30, deaf=False) + [EAGER, UNFAIR])[place * 7 % 32]
             tubs = (turning_tubs(462, 30, deaf=False) + [SAVING, READY])[place * 5 % 32]
-            for mean, steps in [
-                (best_tubs(setup, seats), [half_steps(setup, seats, None, beats) for beats in (16, 32)]),
-                (best_seats(setup, tubs), [half_steps(setup, None, tubs, beats) for beats in (16, 32)]),
-            ]:
-                # behind the first beats the sums go on by just the mean, up to a round of moods and tubs
-                slope = Fraction(steps[1] - steps[0], 16)
-                self.assertLess(abs(slope - Fraction(*mean)), Fraction(2))
-                far += slope != Fraction(*mean)
-        self.assertLess(far, 14)
+            for rules, asked, rule in [((seats, None), best_tubs, seats), ((None, tubs), best_seats, tubs)]:
+                if count_half(setup, *rules) > 100:
+                    continue
+                mean = asked(setup, rule)
+                means.add(mean)
+                self.assertEqual(half_holds(setup, *rules, mean), (True, True))
+        self.assertGreater(len(means), 10)
+        self.assertTrue(any(below > 1 for _, below in means))
+
+    def test_numbers_do_not_settle_beyond_it(self):
+        for setup in FEW[:6]:
+            above, below = best_tubs(setup, EAGER)
+            self.assertEqual(half_holds(setup, EAGER, None, (2 * above + 1, 2 * below)), (True, False))
+            self.assertEqual(half_holds(setup, EAGER, None, (2 * above - 1, 2 * below)), (False, True))
 
     def test_between_the_best_and_the_rules(self):
         between = 0
@@ -390,6 +351,28 @@ def min_half(setup, seats, tubs):
         mean = greatest_ring(firsts, chosen)
         best = mean if best is None else min(best, mean)
     return pair(best)
+
+
+def half_holds(setup, seats, tubs, fraction):
+    """Whether the house, and whether the guests can hold a fraction with one free half.
+
+    They can if what they need, for more and more beats, does not grow any more: the house behind all first
+    comers, the guests behind some.
+    """
+    above, below = fraction
+    firsts, edges = half_places(setup, seats, tubs)
+    found = []
+    for sign, house, guests, all_or_any in [(1, min, max, all), (-1, max, min, any)]:
+        lines = [dict.fromkeys(edges, 0)]
+        for _ in range(4 * len(edges) + 20):
+            lines.append({
+                place: max(0, house(
+                    guests(sign * (below * cost - above * rests) + lines[-1][after] for cost, after in behind)
+                    for rests, behind in deeds
+                )) for place, deeds in edges.items()
+            })
+        found.append(all_or_any(lines[2 * len(edges)][place] == lines[-1][place] for place in firsts))
+    return tuple(found)
 
 
 def greatest_ring(firsts, chosen):

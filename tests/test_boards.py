@@ -6,7 +6,9 @@ from parlourday.boards import (
 )
 from parlourday.errors import BadBoards, BadCount, BadRow, BadRule, BadSetup, TooMany
 
-from tests.cases import UNTOLD_600, UNTOLD_601
+from tests.cases import (
+    COUNTED_600, COUNTED_601, SURE_599, SURE_601, TOLD_600, TOLD_651, UNTOLD_600, UNTOLD_601,
+)
 from tests.plain_house import (
     MEET_120, MEET_600, MEET_601, MEET_MORE, NO_RULES, RULE, START, met_house, plain_count, small_houses, some_houses,
 )
@@ -236,6 +238,14 @@ class Counted(unittest.TestCase):
                 lists = further
             self.assertEqual(boards_counted(setup, rule, 12), sum(lists.values()))
 
+    def test_too_many(self):
+        for case, count in [(COUNTED_600, 600), (COUNTED_601, 601)]:
+            self.assertLessEqual(len(met_house(*case)), 600)
+            self.assertEqual(len(sets_met(told_board(*case), frozenset([START]))), count)
+        self.assertEqual(boards_counted(*COUNTED_600, 0), 1)
+        with self.assertRaises(TooMany):
+            boards_counted(*COUNTED_601, 0)
+
     def test_errors(self):
         for thing in NO_SETUPS:
             with self.assertRaises(BadSetup):
@@ -265,6 +275,15 @@ class Sure(unittest.TestCase):
             self.assertEqual(first_sure(setup, rule), expected)
             lengths.add(None if expected is None else len(expected))
         self.assertLessEqual({None, 0, 1, 2}, lengths)
+
+    def test_too_many(self):
+        for case, count in [(SURE_599, 599), (SURE_601, 601)]:
+            places = met_house(*case)
+            self.assertLessEqual(len(places), 600)
+            self.assertEqual(len(sets_met(told_board(*case), frozenset(places))), count)
+        first_sure(*SURE_599)
+        with self.assertRaises(TooMany):
+            first_sure(*SURE_601)
 
     def test_errors(self):
         for asked in [first_sure, first_untold]:
@@ -422,6 +441,20 @@ class Told(unittest.TestCase):
                 if lists:
                     self.assertEqual(first_told(setup, rule, other), list(lists[0]))
                     break
+
+    def test_too_many(self):
+        for (setup, rule, other), count in [(TOLD_600, 600), (TOLD_651, 651)]:
+            self.assertLessEqual(max(len(met_house(setup, rule)), len(met_house(setup, other))), 600)
+            self.assertEqual(len(plain_beside(setup, rule, other)), count)
+        first_told(*TOLD_600)
+        board_paper(*TOLD_600)
+        self.assertIs(board_paper_holds(*TOLD_600, []), False)
+        for asked in [first_told, board_paper]:
+            with self.assertRaises(TooMany):
+                asked(*TOLD_651)
+        for thing in [None, []]:
+            with self.assertRaises(TooMany):
+                board_paper_holds(*TOLD_651, thing)
 
     def test_many_pairs(self):
         for case in [MEET_601, MEET_MORE]:
