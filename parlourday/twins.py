@@ -64,8 +64,15 @@ def growing_row(setup, table, web):
     most = greatest_growth(web)
     walk, index, rest = growing_walk(setup, table, web, MUCH if most is None else most)
     row = walk + [index] + rest
-    place = [at for at in range(len(row)) if has_growth(setup, table, row, at, most)][0]
-    return (row_at(setup, row), place)
+    return (row_at(setup, row), first_growing(setup, table, row, most))
+
+
+def first_growing(setup, table, row, most):
+    """The least place at which a row, of indexes, grows so, as has_growth tells; there is one."""
+    place = 0
+    while not has_growth(setup, table, row, place, most):
+        place += 1
+    return place
 
 
 def growing_walk(setup, table, web, wanted):

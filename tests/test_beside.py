@@ -6,7 +6,7 @@ from parlourday.beside import (
 )
 from parlourday.errors import BadRule, BadSeats, BadSetup, BadTubs, TooMany
 
-from tests.cases import PAIRS_600, PAIRS_601, TWINS_600, TWINS_601
+from tests.cases import FAR, PAIRS_600, PAIRS_601, TWINS_600, TWINS_601
 from tests.plain_house import (
     BOTH_HEAR, FEW_SEATS, FEW_TUBS, MANY, MEET_120, MEET_600, MEET_601, MEET_MORE, NO_RULES, RULE, START, met_house,
     plain_count, small_houses, some_houses,
@@ -136,6 +136,8 @@ class Gaps(unittest.TestCase):
             for thing in NO_RULES:
                 with self.subTest(thing=str(thing)), self.assertRaises(BadRule):
                     asked(SETUP, thing, None, *nothing)
+                with self.subTest(thing=str(thing)), self.assertRaises(BadRule):
+                    asked(SETUP, thing, RULE, *further)
                 with self.assertRaises(BadRule):
                     asked(SETUP, RULE, thing, *further)
                 with self.assertRaises(BadRule):
@@ -245,6 +247,8 @@ class Harm(unittest.TestCase):
             for thing in NO_SEATS:
                 with self.subTest(thing=str(thing)), self.assertRaises(BadSeats):
                     asked(SETUP, SAVING, thing, None)
+                with self.subTest(thing=str(thing)), self.assertRaises(BadSeats):
+                    asked(SETUP, SAVING, thing, EAGER)
                 with self.assertRaises(BadSeats):
                     asked(SETUP, SAVING, EAGER, thing)
             setup, (seats, tubs) = MEET_MORE
@@ -372,7 +376,7 @@ class OneMore(unittest.TestCase):
 
     def test_plain_twins(self):
         found = []
-        for setup, rule in SINGLES + [case for case in some_houses(435, 60) if case[0][3][1]]:
+        for setup, rule in SINGLES + FAR + [case for case in some_houses(435, 60) if case[0][3][1]]:
             if len(met_house(setup, rule, 60)) > 60:
                 continue
             growth, felt, count = plain_growth(setup, rule)
@@ -387,7 +391,7 @@ class OneMore(unittest.TestCase):
         self.assertLessEqual({(True, None), (False, None), (False, -1), (False, 0), (False, 1)}, set(found))
 
     def test_all_short_rows(self):
-        for setup, rule in SINGLES:
+        for setup, rule in SINGLES + FAR:
             growth = one_more(setup, rule)
             row, place = one_more_row(setup, rule)
             self.assertTrue(row)

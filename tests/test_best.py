@@ -176,6 +176,41 @@ class Papers(unittest.TestCase):
         self.assertIs(worst_guests_hold(free, (0, 1), [(start, ((), 0), 0) for start in starts]), True)
         self.assertIs(worst_guests_hold(free, (1, 9), [(start, ((), 0), 0) for start in starts]), False)
 
+    def test_the_first_views_of_all_comers(self):
+        # entries that hold, but for that not all comers of the first beat lead to a view among them
+        free = changed_at(SETUP, (6,), (0, 0, 0, 0))
+        for _, first in arrivals(free, FIRST)[1:]:
+            way = idle_from(free, [first])
+            self.assertIs(plain_best_way_holds(free, (0, 1), way), False)
+            self.assertIs(best_way_holds(free, (0, 1), way), False)
+        way = idle_from(free, [view for _, view in arrivals(free, FIRST)])
+        self.assertIs(best_way_holds(free, (0, 1), way), True)
+
+    def test_one_entry_that_is_none(self):
+        # with all prices 0 each right number from 0 on holds: so it is the entry itself that is judged
+        free = changed_at(SETUP, (6,), (0, 0, 0, 0))
+        way = idle_from(free, [view for _, view in arrivals(free, FIRST)])
+        guests = [(start, ((), 0), 0) for start in all_views(free)[1]]
+        never = ("tub", (), 0, ((0, 1),), 0)
+        self.assertNotIn(never, views_met(free))
+        rest = way[0][0][1:]
+        every = idle_from(free, views_met(free))
+        self.assertIs(best_way_holds(free, (0, 1), every), True)
+        for entry in [(never, "rest", 0), (([], *rest), "go", 0), (((), *rest), "go", 0), ((), "go", 0)]:
+            self.assertIs(best_way_holds(free, (0, 1), every + [entry]), False)
+        for place, (view, deed, _) in enumerate(way):
+            for entry in [(view, deed, True), (view, deed, False), (view, deed, "0"), (view, deed, None), (view, None, 0),
+                          (view, ["go"], 0), (list(view), deed, 0), (view, "open", 0), [view, deed, 0], (view, deed)]:
+                with self.subTest(entry=str(entry)):
+                    self.assertIs(best_way_holds(free, (0, 1), way[:place] + [entry] + way[place + 1:]), False)
+        self.assertIs(worst_guests_hold(free, (0, 1), guests + [(((), 0, ((0, 2),)), ((), 0), 0)]), False)
+        for place, (start, comers, _) in enumerate(guests):
+            for entry in [(start, comers, True), (start, comers, False), (start, comers, "0"), (start, comers, None),
+                          (start, ((), 1), 0), (start, ((3,), 0), 0), (start, ([], 0), 0), (start, None, 0),
+                          (start, ((), False), 0), (list(start), comers, 0), [start, comers, 0], (start, comers)]:
+                with self.subTest(entry=str(entry)):
+                    self.assertIs(worst_guests_hold(free, (0, 1), guests[:place] + [entry] + guests[place + 1:]), False)
+
     def test_other_objects(self):
         setup = SETUP
         mean = best_mean(setup)
@@ -215,7 +250,36 @@ class Papers(unittest.TestCase):
         self.assertIs(worst_guests_hold(setup=setup, fraction=mean, thing=guests), True)
 
 
+def idle_from(setup, views):
+    """The entries of a way that only goes and rests, of all views that come by it from some on, each number 0."""
+    known, fresh = {}, list(views)
+    while fresh:
+        view = fresh.pop()
+        if view not in known:
+            known[view] = can_do(view)[-1]
+            after, _ = do(setup, view, known[view])
+            fresh += [after] if len(after) == 5 else [further for _, further in arrivals(setup, after)]
+    return [(view, deed, 0) for view, deed in known.items()]
+
+
 class Halves(unittest.TestCase):
+    def test_one_price_alone(self):
+        # three come to one seat: two of them are away at each beat
+        setup = (1, (1,), (1, 0), (1, 2), (1,), 1, (0, 0, 0, 5))
+        self.assertEqual(best_mean(setup), (10, 1))
+        self.assertEqual(best_mean(changed_at(setup, (2,), (1, 1))), (10, 1))
+        self.assertEqual(best_mean((4, (3, 4), (1, 0), (1, 2), (1,), 1, (0, 0, 0, 5))), (10, 1))
+        # nobody sits: the groups and the singles are away
+        self.assertEqual(best_tubs((4, (4,), (1, 2), (1, 2), (1,), 1, (0, 0, 0, 5)), ()), (30, 1))
+        # two great tubs are opened for nobody, and melt at once
+        tubs = ((0, ANY, ANY, ANY, ANY, "great", 0),)
+        self.assertEqual(best_seats((2, (2,), (1, 0), (1, 0), (1, 4), 1, (0, 5, 0, 0)), tubs), (40, 1))
+        # nobody sits, and somebody waits
+        self.assertEqual(best_tubs((4, (4,), (1, 0), (1, 0), (1,), 1, (5, 0, 0, 0)), ()), (20, 1))
+        # all sit, and no tub is opened
+        every = ((0, ANY, ANY, ANY, ANY, "group", 0),)
+        self.assertEqual(long_mean((4, (4,), (1, 0), (1, 0), (1,), 1, (0, 0, 5, 0)), (every, ()), "cost"), (20, 1))
+
     def test_by_hand(self):
         self.assertEqual(best_mean(SETUP), (1, 2))
         self.assertEqual(best_tubs(setup=SETUP, seats=RULE[0]), (1, 2))
@@ -535,6 +599,7 @@ class From(unittest.TestCase):
             ("seat", (), 0, [], 2), ("seat", (), 0, ((0, 2),), 2), ("tub", (), 0, ((2, 2),), 0), (0, (), 0, (), 2),
             (b"seat", (), 0, (), 2), ("seat", {}, 0, (), 2), ("seat", ({},), 0, (), 2), ("seat", (), 0, (([], 1),), 2),
             ("seat", (1, 1, 1), 0, (), 2), ("tub", (), 0, ((1, 1), (0, 2), (0, 2)), 0),
+            ("tub", (), 0, ((0, 1),), 0), ([], (), 0, (), 2), ({}, (), 0, (), 2), (), ((), (), 0, (), 2),
         ]
         for asked in [best_from, kept_deeds]:
             for thing in NO_SETUPS:

@@ -7,7 +7,8 @@ from parlourday.boards import (
 from parlourday.errors import BadBoards, BadCount, BadRow, BadRule, BadSetup, TooMany
 
 from tests.cases import (
-    COUNTED_600, COUNTED_601, SURE_599, SURE_601, TOLD_600, TOLD_651, UNTOLD_600, UNTOLD_601,
+    COUNTED_600, COUNTED_601, IN_ORDER, OF_TWO, SURE_599, SURE_601, TOLD_600, TOLD_651, TOLD_IN_ORDER, UNTOLD_600,
+    UNTOLD_601,
 )
 from tests.plain_house import (
     MEET_120, MEET_600, MEET_601, MEET_MORE, NO_RULES, RULE, START, met_house, plain_count, small_houses, some_houses,
@@ -20,10 +21,10 @@ from tests.plain_parlour import (
 from tests.plain_search import NO_COUNTS
 from tests.plain_tubs import READY, SAVING
 
-SMALL = small_houses(481, 40)
+SMALL = small_houses(481, 40) + IN_ORDER + OF_TWO
 FEW = [case for case in some_houses(482, 60) if len(met_house(*case, 60)) <= 60] + [(SETUP, RULE)]
 PAIRS = [case for case in some_pairs(483, 160) if max(len(met_house(case[0], rule, 30)) for rule in case[1:]) <= 30]
-PAIRS += [(SETUP, RULE, (EAGER, READY)), (SETUP, RULE, RULE), (GREAT, (EAGER, ()), (UNFAIR, ()))]
+PAIRS += TOLD_IN_ORDER + [(SETUP, RULE, (EAGER, READY)), (SETUP, RULE, RULE), (GREAT, (EAGER, ()), (UNFAIR, ()))]
 NO_BOARDS = [
     *[thing for thing in NO_THINGS if thing != []], ((0, 0, 0),), [None], [True], [[0, 0, 0]], [()], [(0, 0)],
     [(0, 0, 0, 0)], [(0, 0, 10)], [(0, -1, 0)], [(True, 0, 0)], [(0, False, 0)], [(0, 0, None)], [("0", 0, 0)],
@@ -205,6 +206,8 @@ class Back(unittest.TestCase):
         for thing in NO_RULES:
             with self.subTest(thing=str(thing)), self.assertRaises(BadRule):
                 told_apart(SETUP, thing, None, None)
+            with self.subTest(thing=str(thing)), self.assertRaises(BadRule):
+                told_apart(SETUP, thing, RULE, [])
             with self.assertRaises(BadRule):
                 told_apart(SETUP, RULE, thing, None)
         for thing in NO_BOARDS:
@@ -474,6 +477,8 @@ class Told(unittest.TestCase):
             for thing in NO_RULES:
                 with self.subTest(thing=str(thing)), self.assertRaises(BadRule):
                     asked(SETUP, thing, None, *further)
+                with self.subTest(thing=str(thing)), self.assertRaises(BadRule):
+                    asked(SETUP, thing, RULE, *further)
                 with self.assertRaises(BadRule):
                     asked(SETUP, RULE, thing, *further)
                 with self.assertRaises(BadRule):
@@ -509,6 +514,7 @@ class Papers(unittest.TestCase):
             (START, None), (None, (START,)), (START, (None,)), ({}, (START,)), (START, ({},)), (list(START), (START,)),
             (((), False, (), (0, 0)), (START,)), (START, (((), 0, (), (0, False)),)), (((), 0, (), (0, 1)), (START,)),
             (START, (((), 0, (), (1, 0)),)), (START, (second[0], START)), (START, "x"), ("x", (START,)), (0, (0,)),
+            (START, 7), (START, (START, ((), 0, ((1, 2),), (0, 0)))),
         ]
         self.assertIs(board_paper_holds(SETUP, RULE, RULE, paper + [(START, (START, second[0]))]), True)
         for entry in entries:

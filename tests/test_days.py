@@ -264,6 +264,24 @@ class Tables(unittest.TestCase):
         late = [view for view in layers[1] if view not in layers[0]][0]
         self.assertIs(day_table_holds(setup, 2, 0, table + [(0, late, 0, can_do(late)[-1])]), False)
 
+    def test_one_entry_that_is_none(self):
+        # with all prices 0 each right number from 0 on holds: so it is the entry itself that is judged
+        setup = changed_at(SETUP, (6,), (0, 0, 0, 0))
+        layers = plain_day_views(setup, 2)
+        table = [(beat, view, 0, can_do(view)[-1]) for beat, layer in enumerate(layers) for view in layer]
+        never = ("tub", (), 0, ((0, 1),), 0)
+        for entry in [(1, never, 0, "rest"), (1, ([], *never[1:]), 0, "rest"), (1, (), 0, "rest")]:
+            self.assertIs(day_table_holds(setup, 2, 0, table + [entry]), False)
+        for place, (beat, view, _, deed) in enumerate(table):
+            entries = [
+                (beat, view, True, deed), (beat, view, False, deed), (beat, view, "0", deed), (beat, view, None, deed),
+                (beat, view, 0, None), (beat, view, 0, ["go"]), (beat, view, 0, "open"), (beat, list(view), 0, deed),
+                (bool(beat), view, 0, deed), (str(beat), view, 0, deed), [beat, view, 0, deed], (beat, view, 0),
+            ]
+            for entry in entries:
+                with self.subTest(entry=str(entry)):
+                    self.assertIs(day_table_holds(setup, 2, 9, table[:place] + [entry] + table[place + 1:]), False)
+
     def test_other_objects(self):
         table = day_table(SETUP, 2)
         beat, view, number, deed = table[0]
