@@ -8,7 +8,9 @@ from parlourday.rings import mean_most
 from parlourday.seats import seats_web
 from parlourday.tubs import open_for, tubs_web
 
-from tests.cases import OPEN_MANY, RESETS_600, RESETS_601, UNASKED_4, UNASKED_7, UNSAFE_7
+from tests.cases import (
+    OPEN_MANY, RESETS_600, RESETS_601, UNASKED_4, UNASKED_600, UNASKED_601, UNASKED_7, UNSAFE_7,
+)
 from tests.plain_house import (
     BOTH_HEAR, MANY, MEET_120, MEET_121, MEET_600, MEET_601, MEET_MORE, NO_RULES, RULE, START, met_house,
     plain_count, plain_house_web, some_houses,
@@ -211,7 +213,8 @@ class Unasked(unittest.TestCase):
 
     def test_all_sets_of_standings(self):
         lengths = set()
-        cases = [UNASKED_4, UNASKED_7, *zip(some_setups(421, 150), turning_seats(422, 75) + some_seats(423, 75))]
+        cases = [UNASKED_4, UNASKED_7, UNASKED_600]
+        cases += zip(some_setups(421, 150), turning_seats(422, 75) + some_seats(423, 75))
         for setup, seats in cases:
             told = seats_told(setup, seats)
             sets = sets_met(told, frozenset([((), 0, 0)]))
@@ -224,6 +227,13 @@ class Unasked(unittest.TestCase):
             self.assertEqual(first_unasked(setup, seats), expected)
             lengths.add(len(expected or []))
         self.assertLessEqual({0, 1, 2, 4, 7}, lengths)
+
+    def test_too_many_sets(self):
+        for (setup, seats), count in [(UNASKED_600, 600), (UNASKED_601, 601)]:
+            self.assertEqual(len(sets_met(seats_told(setup, seats), frozenset([((), 0, 0)]))), count)
+        first_unasked(*UNASKED_600)
+        with self.assertRaises(TooMany):
+            first_unasked(*UNASKED_601)
 
     def test_all_short_rows(self):
         for setup, rule in SMALL:
